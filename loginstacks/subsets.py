@@ -1,0 +1,11 @@
+"""Subsets, in the order in which the least one of several is chosen."""
+
+
+def all_subsets(items):
+    """The list of all subsets of ascending items as ascending tuples, the shortest first, then in tuple order."""
+    found = [()]
+    longest = [()]
+    for _ in items:
+        longest = [row + (item,) for row in longest for item in items if row == () or item > row[-1]]
+        found.extend(longest)
+    return found

@@ -1,0 +1,152 @@
+"""Point 1 and the interface: where the names stand, and that calls leave everything as it was."""
+
+import ast
+import copy
+import unittest
+from pathlib import Path
+
+import loginstacks
+from loginstacks import answers, comparing, runs, settling, trimming
+from loginstacks.errors import StackError
+from loginstacks.rules import Rule
+from loginstacks.stacks import Stack
+from tests.plain import written
+from tests.support import Case
+
+FOLDER = Path(loginstacks.__file__).parent
+INTERFACE = {
+    "errors": ("StackError", "InvalidRule", "InvalidStack", "UnknownRule", "InvalidPlace", "InvalidAnswers", "TooMany",
+               "UnknownModule", "InvalidMode", "UnknownView", "InvalidWeights"),
+    "rules": ("Rule",),
+    "stacks": ("Stack",),
+    "runs": ("outcome", "asked", "blamed"),
+    "answers": ("answer_count", "in_count", "answers_in", "first_in", "first_out"),
+    "settling": ("settled", "open_modules", "least_reason", "least_change"),
+    "comparing": ("alike", "is_stricter", "first_difference"),
+    "trimming": ("needless", "free_pairs", "least_kept", "least_stack"),
+}
+METHODS = {
+    Rule: ("module", "control", "kind", "__eq__"),
+    Stack: ("__len__", "__getitem__", "__add__", "__eq__", "entries", "rules", "modules", "without", "spliced"),
+}
+
+
+def sample_stack():
+    return Stack(Stack(Rule("key", "sufficient"), Rule("card", "sufficient")), Rule("pin", "required"),
+                 Rule("lan", (1, "ignore", "reset", "die")), Rule("pin", "requisite"))
+
+
+def sample_calls():
+    """Functions with their arguments, some of them right and some wrong."""
+    stack, other = sample_stack(), Stack(Rule("pin", "required"), Rule("tan", "optional"))
+    told = {"pin": "yes", "key": "no", "lan": "gone", "card": "skip"}
+    wrong = {"pin": "yes", "key": None, "zoo": "yes"}
+    calls = [(one, (stack,)) for one in (
+        answers.answer_count, answers.in_count, answers.first_in, answers.first_out, trimming.needless,
+        trimming.free_pairs, trimming.least_kept, trimming.least_stack, lambda stack: list(answers.answers_in(stack)))]
+    calls += [(one, (stack, row)) for row in (told, wrong) for one in (
+        runs.outcome, runs.asked, runs.blamed, settling.settled, settling.open_modules, settling.least_reason,
+        settling.least_change)]
+    calls += [(one, (stack, {"pin": "no"})) for one in (settling.settled, settling.open_modules)]
+    calls += [(one, (stack, other)) for one in (
+        comparing.alike, comparing.is_stricter, comparing.first_difference, Stack.__add__, Stack.__eq__)]
+    calls += [(Stack.without, (stack, numbers)) for numbers in ((3, 0), (1, 1))]
+    calls += [(Stack.spliced, (stack, index, 1, (other, "pin")[:index])) for index in (0, 1, 2, 9)]
+    return calls
+
+
+def plainly(value):
+    """A value as lists, dicts and tuples of what can be compared by its text."""
+    if isinstance(value, Stack):
+        return ["stack", written(value)]
+    if isinstance(value, (list, tuple)):
+        return type(value)(plainly(part) for part in value)
+    if isinstance(value, dict):
+        return {name: plainly(value[name]) for name in value}
+    return value
+
+
+def told(call, arguments):
+    """What a call returns, or the error that it raises."""
+    try:
+        return call(*arguments)
+    except StackError as error:
+        return (type(error).__name__, dict(vars(error)))
+
+
+def spoil(value):
+    """Changes all lists and dicts within a value."""
+    if isinstance(value, (list, tuple)):
+        for part in value:
+            spoil(part)
+    if isinstance(value, dict):
+        value["spoiled"] = "spoiled"
+    if isinstance(value, list):
+        value.append("spoiled")
+
+
+class CallsTest(Case):
+    def test_no_argument_is_changed(self):
+        for call, arguments in sample_calls():
+            before = copy.deepcopy(plainly(arguments))
+            told(call, arguments)
+            self.same(plainly(arguments), before)
+
+    def test_two_calls_tell_the_same(self):
+        for call, arguments in sample_calls():
+            self.same(plainly(told(call, arguments)), plainly(told(call, arguments)))
+
+    def test_what_is_returned_may_be_changed(self):
+        for call, arguments in sample_calls():
+            found = told(call, arguments)
+            before = copy.deepcopy(plainly(found))
+            spoil(found)
+            self.same(plainly(told(call, arguments)), before)
+
+    def test_arguments_are_not_kept(self):
+        told_before = {"pin": "no", "key": "no", "lan": "skip", "card": "no"}
+        stack = sample_stack()
+        before = runs.asked(stack, told_before)
+        told_before["key"] = "yes"
+        self.assertNotEqual(runs.asked(stack, told_before), before)
+        entries = [Rule("pin", "required"), Rule("key", "required")]
+        stack = Stack(*entries)
+        entries.clear()
+        self.assertEqual(len(stack), 2)
+
+    def test_errors_change_nothing(self):
+        stack = sample_stack()
+        for call in (lambda: stack.without((0, 9)), lambda: stack.spliced(0, 1, (None,)), lambda: stack.spliced(9, 1, ()),
+                     lambda: stack + Stack(*[stack[0]] * 6), lambda: runs.asked(stack, {})):
+            with self.assertRaises(StackError):
+                call()
+            self.assertEqual(stack, sample_stack())
+            self.assertEqual(written(stack), written(sample_stack()))
+
+
+class FilesTest(Case):
+    def test_the_folder_holds_nothing_else(self):
+        found = [path.name for path in FOLDER.iterdir() if path.name != "__pycache__"]
+        self.assertEqual([name for name in found if not name.endswith(".py")], [])
+        self.assertIn("__init__.py", found)
+
+    def test_names_are_defined_in_their_files(self):
+        for name, names in INTERFACE.items():
+            tree = ast.parse((FOLDER / f"{name}.py").read_text())
+            defined = [node.name for node in tree.body if isinstance(node, (ast.FunctionDef, ast.ClassDef))]
+            self.assertEqual([one for one in names if one not in defined], [])
+
+    def test_methods_are_defined_in_their_classes(self):
+        for one, names in METHODS.items():
+            self.assertEqual([name for name in names if name not in vars(one)], [])
+
+    def test_nothing_from_outside_is_imported(self):
+        for path in FOLDER.glob("*.py"):
+            for node in ast.walk(ast.parse(path.read_text())):
+                self.assertNotIsInstance(node, ast.Import)
+                if isinstance(node, ast.ImportFrom):
+                    self.assertEqual((node.module.split(".")[0], node.level), ("loginstacks", 0))
+
+
+if __name__ == "__main__":
+    unittest.main()

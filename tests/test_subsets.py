@@ -1,0 +1,22 @@
+"""The order in which the least one of several subsets is chosen."""
+
+import unittest
+
+from loginstacks.subsets import all_subsets
+from tests import plain
+from tests.support import Case
+
+
+class SubsetsTest(Case):
+    def test_shortest_first_then_in_tuple_order(self):
+        self.same(all_subsets([]), [()])
+        self.same(all_subsets(("a", "b", "c")),
+                  [(), ("a",), ("b",), ("c",), ("a", "b"), ("a", "c"), ("b", "c"), ("a", "b", "c")])
+
+    def test_beside_a_plain_search(self):
+        for many in range(8):
+            self.same(all_subsets(list(range(many))), plain.tuples_of(range(many)))
+
+
+if __name__ == "__main__":
+    unittest.main()
