@@ -13,6 +13,16 @@ def answers_with(modules, known):
     return rows
 
 
+def words_of(stack):
+    """A dict from the results of all modules of a stack, as tuples, in order, to where they lead."""
+    return {tuple(answers.values()): leads(stack, answers) for answers in answers_with(stack.modules, {})}
+
+
+def with_result(results, place, result):
+    """A tuple of results in which this one stands at a place."""
+    return results[:place] + (result,) + results[place + 1:]
+
+
 def first_leading(stack, word):
     """The first answers that lead to a word, or None."""
     for answers in answers_with(stack.modules, {}):

@@ -63,3 +63,47 @@ class InvalidWeights(StackError):
     def __init__(self, name):
         StackError.__init__(self, f"the weights of {name} are missing, superfluous or invalid")
         self.name = name
+
+
+class InvalidService(StackError):
+    """The stacks of a service have too many modules."""
+
+    def __init__(self, part):
+        StackError.__init__(self, f"with the stack {part} a service has too many modules")
+        self.part = part
+
+
+class InvalidNeeds(StackError):
+    """Needs have a module too many, or one without a tuple of modules that it can need."""
+
+    def __init__(self, name):
+        StackError.__init__(self, f"the needs of {name} are superfluous or invalid")
+        self.name = name
+
+
+class InvalidCosts(StackError):
+    """Costs lack a module, have one too many, or one without a cost."""
+
+    def __init__(self, name):
+        StackError.__init__(self, f"the cost of {name} is missing, superfluous or invalid")
+        self.name = name
+
+
+class InvalidLock(StackError):
+    """A number of a lock is out of range."""
+
+    def __init__(self, part):
+        StackError.__init__(self, f"a lock cannot have this number: {part}")
+        self.part = part
+
+
+class InvalidEvent(StackError):
+    """An event has a wrong time, client or answers."""
+
+    def __init__(self, index):
+        StackError.__init__(self, f"the event {index} has a wrong time, client or answers")
+        self.index = index
+
+
+class InvalidNumber(StackError):
+    """A number is out of range."""

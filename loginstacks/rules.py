@@ -1,5 +1,6 @@
 """Rules: a module to ask, and what each of its results does (point 2)."""
 
+from loginstacks.checks import is_number
 from loginstacks.errors import InvalidRule
 
 LETTERS = "abcdefghijklmnopqrstuvwxyz"
@@ -56,12 +57,14 @@ def is_word(value):
     return all([letter in LETTERS for letter in value])
 
 
+def is_result(value):
+    """Whether a value of any kind is a result."""
+    return value in RESULTS
+
+
 def is_action(value):
     """Whether a value of any kind is an action."""
-    # Python counts True and False as integers, but here they are not, so True is no jump of 1.
-    if isinstance(value, int) and not isinstance(value, bool):
-        return 1 <= value <= LONGEST_JUMP
-    return value in ACTIONS
+    return is_number(value, 1, LONGEST_JUMP) or value in ACTIONS
 
 
 def actions_of(control):

@@ -1,15 +1,27 @@
 """Runs of a stack: where they lead, whom they ask and who is to blame (points 4 and 5)."""
 
+from loginstacks.checks import least_wrong_name
 from loginstacks.errors import InvalidAnswers
-from loginstacks.rules import RESULTS
+from loginstacks.rules import RESULTS, is_result
 from loginstacks.stacks import Stack, rules_of
 
 
-class Run:
-    """A run, as far as it has come."""
+class Teller:
+    """Modules that tell their answers."""
 
     def __init__(self, answers):
         self.answers = answers
+
+    def tell(self, module):
+        """What a module tells that is asked now."""
+        return self.answers[module]
+
+
+class Run:
+    """A run, as far as it has come; the teller may tell otherwise when a module is asked again."""
+
+    def __init__(self, teller):
+        self.teller = teller
         self.mark = "none"
         # The number of the rule that made the mark bad, while it is bad.
         self.spoiler = None
@@ -37,7 +49,7 @@ class Run:
     def ask(self, rule, number):
         """Asks the module of a rule and returns the action that follows."""
         self.numbers.append(number)
-        return rule.control[RESULTS.index(self.answers[rule.module])]
+        return rule.control[RESULTS.index(self.teller.tell(rule.module))]
 
     def change_mark(self, action, number, began):
         """Does to the mark what an action says; began is the mark, and its spoiler, with which the stack began."""
@@ -54,35 +66,38 @@ class Run:
         return action == "die" or (action == "done" and self.mark == "good")
 
 
-def whole_run(stack, answers):
-    """The run of a stack to its end; the answers may have further modules."""
-    run = Run(answers)
+def run_of(stack, teller):
+    """The run of a stack to its end, whose modules this teller has; it may have further ones."""
+    run = Run(teller)
     run.go_through(stack, 0)
     return run
 
 
+def whole_run(stack, answers):
+    """The run of a stack to its end; the answers may have further modules."""
+    return run_of(stack, Teller(answers))
+
+
+def word_of(run):
+    """Where a run leads that is at its end."""
+    return "in" if run.mark == "good" else "out"
+
+
 def leads(stack, answers):
     """Where answers lead that need no check; they may have further modules."""
-    return "in" if whole_run(stack, answers).mark == "good" else "out"
-
-
-def is_told(modules, answers, name):
-    """Whether the answers have a result for this name, and it is one of the modules."""
-    return name in modules and name in answers and answers[name] in RESULTS
+    return word_of(whole_run(stack, answers))
 
 
 def check_known(modules, known):
     """Raises InvalidAnswers unless these are results of some of the modules."""
-    for name in sorted(known):
-        if not is_told(modules, known, name):
-            raise InvalidAnswers(name)
+    check_answers([module for module in modules if module in known], known)
 
 
 def check_answers(modules, answers):
     """Raises InvalidAnswers unless these are results of all the modules."""
-    for name in sorted(list(modules) + list(answers)):
-        if not is_told(modules, answers, name):
-            raise InvalidAnswers(name)
+    name = least_wrong_name(modules, answers, is_result)
+    if name is not None:
+        raise InvalidAnswers(name)
 
 
 def outcome(stack, answers):

@@ -126,3 +126,8 @@ def random_entries(rng, modules, depth, budget):
 
 def random_stack(rng, modules, rules=8):
     return Stack(*random_entries(rng, modules, 1, [rules]))
+
+
+def random_word_stack(rng, modules, rules=7):
+    """A flat stack of rules with the four words alone."""
+    return Stack(*[Rule(rng.choice(modules), rng.choice(sorted(KINDS))) for _ in range(rng.randint(0, rules))])

@@ -5,10 +5,11 @@ import unittest
 from loginstacks import errors
 from tests.support import Case
 
-PLAIN = ("InvalidPlace", "TooMany", "UnknownModule", "InvalidMode", "UnknownView")
+PLAIN = ("InvalidPlace", "TooMany", "UnknownModule", "InvalidMode", "UnknownView", "InvalidNumber")
 ATTRIBUTES = {
     "InvalidRule": "part", "InvalidStack": "index", "UnknownRule": "index",
-    "InvalidAnswers": "name", "InvalidWeights": "name",
+    "InvalidAnswers": "name", "InvalidWeights": "name", "InvalidService": "part", "InvalidNeeds": "name",
+    "InvalidCosts": "name", "InvalidLock": "part", "InvalidEvent": "index",
 }
 
 

@@ -6,9 +6,12 @@ import unittest
 from pathlib import Path
 
 import loginstacks
-from loginstacks import answers, comparing, runs, settling, trimming
+from loginstacks import (answers, asking, comparing, ends, harm, locks, needs, runs, services, settling, trimming,
+                         watching, weights)
 from loginstacks.errors import StackError
+from loginstacks.locks import Lock
 from loginstacks.rules import Rule
+from loginstacks.services import Service
 from loginstacks.stacks import Stack
 from tests.plain import written
 from tests.support import Case
@@ -16,7 +19,8 @@ from tests.support import Case
 FOLDER = Path(loginstacks.__file__).parent
 INTERFACE = {
     "errors": ("StackError", "InvalidRule", "InvalidStack", "UnknownRule", "InvalidPlace", "InvalidAnswers", "TooMany",
-               "UnknownModule", "InvalidMode", "UnknownView", "InvalidWeights"),
+               "UnknownModule", "InvalidMode", "UnknownView", "InvalidWeights", "InvalidService", "InvalidNeeds",
+               "InvalidCosts", "InvalidLock", "InvalidEvent", "InvalidNumber"),
     "rules": ("Rule",),
     "stacks": ("Stack",),
     "runs": ("outcome", "asked", "blamed"),
@@ -24,10 +28,20 @@ INTERFACE = {
     "settling": ("settled", "open_modules", "least_reason", "least_change"),
     "comparing": ("alike", "is_stricter", "first_difference"),
     "trimming": ("needless", "free_pairs", "least_kept", "least_stack"),
+    "harm": ("harms", "fails_open", "harm_shown", "keys", "bars"),
+    "asking": ("fewest_questions", "best_first"),
+    "watching": ("seen", "views", "could_be", "telling"),
+    "weights": ("share_in", "gain", "share_blamed"),
+    "services": ("Service", "visit", "phases", "asked_in"),
+    "needs": ("visit_with", "held_back", "idle_needs"),
+    "ends": ("ends", "first_with", "cheapest_key", "cheapest_bar"),
+    "locks": ("Lock", "locked_visits", "locked_until", "most_refusals", "least_time"),
 }
 METHODS = {
     Rule: ("module", "control", "kind", "__eq__"),
     Stack: ("__len__", "__getitem__", "__add__", "__eq__", "entries", "rules", "modules", "without", "spliced"),
+    Service: ("login", "account", "change", "session", "modules", "__eq__"),
+    Lock: ("tries", "pause", "growth", "__eq__"),
 }
 
 
@@ -52,13 +66,55 @@ def sample_calls():
         comparing.alike, comparing.is_stricter, comparing.first_difference, Stack.__add__, Stack.__eq__)]
     calls += [(Stack.without, (stack, numbers)) for numbers in ((3, 0), (1, 1))]
     calls += [(Stack.spliced, (stack, index, 1, (other, "pin")[:index])) for index in (0, 1, 2, 9)]
-    return calls
+    return calls + sample_calls_of_searches(stack, told, wrong) + sample_calls_of_services(told, wrong)
+
+
+def sample_calls_of_searches(stack, told, wrong):
+    """Those that tell what spoils, what has to be asked, what is seen and which share succeeds."""
+    calls = [(one, (stack,)) for one in (
+        harm.harms, harm.fails_open, harm.keys, harm.bars, asking.fewest_questions, asking.best_first)]
+    calls += [(harm.harm_shown, (stack, name)) for name in ("lan", "pin", "zoo")]
+    calls += [(watching.seen, (stack, row, mode)) for row in (told, wrong) for mode in ("rules", "none")]
+    calls += [(one, (stack, mode)) for one in (watching.views, watching.telling) for mode in ("count", "rules", "none")]
+    calls += [(watching.could_be, (stack, view)) for view in (("out",), ("out", 4), ("in", (9,)))]
+    rows = [{"pin": (1, 2, 3, 4), "lan": (0, 1, 0, 0), "key": (1, 1, 1, 1), "card": (9, 0, 1000, 0)}, {"zoo": [1, 2]}]
+    calls += [(one, (stack, row)) for one in (weights.share_in, weights.share_blamed) for row in rows]
+    return calls + [(weights.gain, (stack, row, name)) for row in rows for name in ("pin", "zoo")]
+
+
+def sample_service():
+    return Service(Stack(Rule("key", "sufficient"), Rule("pin", "required")), Stack(Rule("card", "optional")),
+                   Stack(Rule("pin", "required"), Rule("lan", "required")), sample_stack())
+
+
+def sample_calls_of_services(told, wrong):
+    service, lock = sample_service(), Lock(2, 10, 3)
+    told = {**told, "card": "yes"}
+    calls = [(one, (service, row)) for one in (services.visit, services.phases, services.asked_in)
+             for row in (told, wrong)]
+    tables = [{"pin": ("card", "key"), "lan": ("pin",), "key": ("card",)}, {"zoo": ("pin",)}, {"pin": ["key"]}]
+    calls += [(one, (service, table, row)) for one in (needs.visit_with, needs.held_back) for table in tables
+              for row in (told, wrong)]
+    calls += [(needs.idle_needs, (service, table)) for table in tables]
+    calls += [(ends.ends, (service,))]
+    calls += [(ends.first_with, (service, *end)) for end in (("opened", "session"), ("opened", "login"))]
+    calls += [(one, (service, costs)) for one in (ends.cheapest_key, ends.cheapest_bar)
+              for costs in ({"pin": 3, "lan": 0, "key": 1000, "card": 7}, {"pin": True, "zoo": 1})]
+    events = [(time, name, told) for time, name in ((0, "bo"), (0, "ann"), (3, "bo"), (4, "ann"))]
+    calls += [(one, (service, lock, rows)) for one in (locks.locked_visits, locks.locked_until)
+              for rows in (events, events[::-1], [])]
+    calls += [(one, (lock, number)) for one in (locks.most_refusals, locks.least_time) for number in (7, -1, True)]
+    return calls + [(Service.__eq__, (service, sample_service())), (Lock.__eq__, (lock, Lock(2, 10, 3)))]
 
 
 def plainly(value):
     """A value as lists, dicts and tuples of what can be compared by its text."""
     if isinstance(value, Stack):
         return ["stack", written(value)]
+    if isinstance(value, Service):
+        return [plainly(stack) for stack in (value.login, value.account, value.change, value.session)]
+    if isinstance(value, Lock):
+        return ["lock", value.tries, value.pause, value.growth]
     if isinstance(value, (list, tuple)):
         return type(value)(plainly(part) for part in value)
     if isinstance(value, dict):
@@ -114,6 +170,14 @@ class CallsTest(Case):
         entries.clear()
         self.assertEqual(len(stack), 2)
 
+    def test_events_and_their_answers_are_not_kept(self):
+        told = {"pin": "no", "key": "no", "lan": "skip", "card": "no"}
+        events = [(0, "ann", told), (0, "ann", told)]
+        first = locks.locked_until(sample_service(), Lock(2, 10, 3), events)
+        told["pin"] = "yes"
+        self.same(first, {"ann": 10})
+        self.same(locks.locked_until(sample_service(), Lock(2, 10, 3), events), {})
+
     def test_errors_change_nothing(self):
         stack = sample_stack()
         for call in (lambda: stack.without((0, 9)), lambda: stack.spliced(0, 1, (None,)), lambda: stack.spliced(9, 1, ()),
@@ -144,7 +208,7 @@ class FilesTest(Case):
         for path in FOLDER.glob("*.py"):
             for node in ast.walk(ast.parse(path.read_text())):
                 self.assertNotIsInstance(node, ast.Import)
-                if isinstance(node, ast.ImportFrom):
+                if isinstance(node, ast.ImportFrom) and node.module != "math":
                     self.assertEqual((node.module.split(".")[0], node.level), ("loginstacks", 0))
 
 
