@@ -14,6 +14,11 @@ def answers_of_both(one, other):
     return answers_with(modules, {})
 
 
+def difference_count(one, other):
+    """How many answers do not lead to the same in both stacks."""
+    return len([answers for answers in answers_of_both(one, other) if leads(one, answers) != leads(other, answers)])
+
+
 def alike(one, other):
     """Whether all answers lead to the same in both stacks."""
     return first_difference(one, other) is None

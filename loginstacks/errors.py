@@ -107,3 +107,84 @@ class InvalidEvent(StackError):
 
 class InvalidNumber(StackError):
     """A number is out of range."""
+
+
+class InvalidOwn(StackError):
+    """A prober cannot have these own modules."""
+
+
+class InvalidWord(StackError):
+    """A word is neither "in" nor "out"."""
+
+
+class Contradiction(StackError):
+    """What is observed cannot be, beside what was observed before."""
+
+
+class InvalidSuspects(StackError):
+    """There are no stacks, too many, or too many modules in them."""
+
+    def __init__(self, index):
+        StackError.__init__(self, f"a stack is missing at index {index}, or is one too many")
+        self.index = index
+
+
+class PromiseBroken(StackError):
+    """A promise does not hold."""
+
+    def __init__(self, index):
+        StackError.__init__(self, f"the promise {index} does not hold")
+        self.index = index
+
+
+class InvalidName(StackError):
+    """Nothing can be stored under a name that is no word."""
+
+
+class UnknownName(StackError):
+    """Nothing is stored under a name."""
+
+
+class InvalidOperation(StackError):
+    """There is no such operation, or it takes another number of arguments."""
+
+    def __init__(self, index):
+        StackError.__init__(self, f"there is no operation like the one at index {index}")
+        self.index = index
+
+
+class InvalidText(StackError):
+    """A word of a text is wrong, superfluous or missing."""
+
+    def __init__(self, row, word):
+        StackError.__init__(self, f"in the row {row} the word {word} is wrong, superfluous or missing")
+        self.row = row
+        self.word = word
+
+
+class DecodeError(StackError):
+    """An item of a code cannot stand where it does, or is missing."""
+
+    def __init__(self, offset):
+        StackError.__init__(self, f"the item at offset {offset} cannot stand there or is missing")
+        self.offset = offset
+
+
+class ScriptError(StackError):
+    """A row cannot stand in a script where it does, or is missing."""
+
+    def __init__(self, row):
+        StackError.__init__(self, f"the row {row} cannot stand there or is missing")
+        self.row = row
+
+
+class ExecutionFailed(StackError):
+    """A row of a script cannot be executed."""
+
+    def __init__(self, row):
+        StackError.__init__(self, f"the row {row} cannot be executed")
+        self.row = row
+
+
+class TooLong(StackError):
+    """A script takes too many steps."""

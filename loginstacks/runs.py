@@ -1,9 +1,11 @@
 """Runs of a stack: where they lead, whom they ask and who is to blame (points 4 and 5)."""
 
 from loginstacks.checks import least_wrong_name
-from loginstacks.errors import InvalidAnswers
+from loginstacks.errors import InvalidAnswers, InvalidWord
 from loginstacks.rules import RESULTS, is_result
 from loginstacks.stacks import Stack, rules_of
+
+OUTCOMES = ("in", "out")
 
 
 class Teller:
@@ -86,6 +88,12 @@ def word_of(run):
 def leads(stack, answers):
     """Where answers lead that need no check; they may have further modules."""
     return word_of(whole_run(stack, answers))
+
+
+def check_outcome(word):
+    """Raises InvalidWord unless this is a word that tells where answers lead."""
+    if word not in OUTCOMES:
+        raise InvalidWord("this is neither in nor out")
 
 
 def check_known(modules, known):

@@ -1,5 +1,6 @@
 """Stacks of rules and of other stacks (point 3)."""
 
+from loginstacks.checks import is_number
 from loginstacks.errors import InvalidPlace, InvalidStack, UnknownRule
 from loginstacks.rules import Rule
 
@@ -62,7 +63,8 @@ class Stack:
 
     def spliced(self, index, count, entries):
         """The stack with other entries in the place of so many from the index on."""
-        if index < 0 or count < 0 or index + count > len(self._entries):
+        many = len(self._entries)
+        if not is_number(index, 0, many) or not is_number(count, 0, many - index):
             raise InvalidPlace("the stack has no such entries")
         after = self._entries[:index] + entries + self._entries[index + count:]
         return Stack(*after)
@@ -97,7 +99,7 @@ def first_misfit(entries):
 def check_numbers(numbers, many):
     """Raises UnknownRule unless these are numbers of different ones of so many rules."""
     for index, number in enumerate(numbers):
-        if number not in range(many) or number in numbers[:index]:
+        if not is_number(number, 0, many - 1) or number in numbers[:index]:
             raise UnknownRule(index)
 
 
@@ -115,3 +117,24 @@ def entries_left(stack, numbers, first):
             left.append(entry)
         number += len(rules_of(entry))
     return left
+
+
+def exchanged(stack, index):
+    """The stack in which an entry is exchanged with the next one; raises InvalidPlace if there are no such two."""
+    return stack.spliced(index, 2, stack.entries[index:index + 2][::-1])
+
+
+def with_rule(stack, number, rule):
+    """The stack in which a rule stands in the place of the one with this number."""
+    entries = []
+    first = 0
+    for entry in stack.entries:
+        behind = first + len(rules_of(entry))
+        if not first <= number < behind:
+            entries.append(entry)
+        elif isinstance(entry, Stack):
+            entries.append(with_rule(entry, number - first, rule))
+        else:
+            entries.append(rule)
+        first = behind
+    return Stack(*entries)

@@ -3,6 +3,7 @@
 from loginstacks.answers import answers_with
 from loginstacks.comparing import alike
 from loginstacks.runs import leads
+from loginstacks.stacks import exchanged
 from loginstacks.subsets import all_subsets
 
 
@@ -49,8 +50,3 @@ def first_parting(stack, led):
         if leads(stack, answers) != word:
             return (answers, word)
     return None
-
-
-def exchanged(stack, index):
-    """The stack in which an entry is exchanged with the next one."""
-    return stack.spliced(index, 2, (stack[index + 1], stack[index]))

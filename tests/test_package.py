@@ -6,13 +6,16 @@ import unittest
 from pathlib import Path
 
 import loginstacks
-from loginstacks import (answers, asking, comparing, ends, harm, locks, needs, runs, services, settling, trimming,
-                         watching, weights)
+from loginstacks import (answers, asking, comparing, ends, harm, locks, needs, removing, runs, services, settling,
+                         trimming, watching, weights)
 from loginstacks.errors import StackError
 from loginstacks.locks import Lock
+from loginstacks.probing import Prober
+from loginstacks.registers import Register, Trial
 from loginstacks.rules import Rule
 from loginstacks.services import Service
 from loginstacks.stacks import Stack
+from loginstacks.suspects import Suspects
 from tests.plain import written
 from tests.support import Case
 
@@ -20,7 +23,9 @@ FOLDER = Path(loginstacks.__file__).parent
 INTERFACE = {
     "errors": ("StackError", "InvalidRule", "InvalidStack", "UnknownRule", "InvalidPlace", "InvalidAnswers", "TooMany",
                "UnknownModule", "InvalidMode", "UnknownView", "InvalidWeights", "InvalidService", "InvalidNeeds",
-               "InvalidCosts", "InvalidLock", "InvalidEvent", "InvalidNumber"),
+               "InvalidCosts", "InvalidLock", "InvalidEvent", "InvalidNumber", "InvalidOwn", "InvalidWord",
+               "Contradiction", "InvalidSuspects", "PromiseBroken", "InvalidName", "UnknownName", "InvalidOperation",
+               "InvalidText", "DecodeError", "ScriptError", "ExecutionFailed", "TooLong"),
     "rules": ("Rule",),
     "stacks": ("Stack",),
     "runs": ("outcome", "asked", "blamed"),
@@ -36,12 +41,21 @@ INTERFACE = {
     "needs": ("visit_with", "held_back", "idle_needs"),
     "ends": ("ends", "first_with", "cheapest_key", "cheapest_bar"),
     "locks": ("Lock", "locked_visits", "locked_until", "most_refusals", "least_time"),
+    "probing": ("Prober",),
+    "suspects": ("Suspects",),
+    "removing": ("least_risk",),
+    "registers": ("Register", "Trial"),
 }
 METHODS = {
     Rule: ("module", "control", "kind", "__eq__"),
     Stack: ("__len__", "__getitem__", "__add__", "__eq__", "entries", "rules", "modules", "without", "spliced"),
     Service: ("login", "account", "change", "session", "modules", "__eq__"),
     Lock: ("tries", "pause", "growth", "__eq__"),
+    Prober: ("candidates", "history", "sure", "run", "kinds", "best_choice", "fewest_runs"),
+    Suspects: ("remaining", "history", "see", "groups", "best_answers", "fewest_tests"),
+    Register: ("stored", "promises", "history", "put", "take", "swap", "turn", "promise", "go", "store", "undo", "redo",
+               "stack", "apply_all", "tried", "replay"),
+    Trial: ("hold", "__enter__", "__exit__"),
 }
 
 
@@ -66,7 +80,8 @@ def sample_calls():
         comparing.alike, comparing.is_stricter, comparing.first_difference, Stack.__add__, Stack.__eq__)]
     calls += [(Stack.without, (stack, numbers)) for numbers in ((3, 0), (1, 1))]
     calls += [(Stack.spliced, (stack, index, 1, (other, "pin")[:index])) for index in (0, 1, 2, 9)]
-    return calls + sample_calls_of_searches(stack, told, wrong) + sample_calls_of_services(told, wrong)
+    calls += sample_calls_of_searches(stack, told, wrong) + sample_calls_of_services(told, wrong)
+    return calls + sample_calls_of_what_changes(stack, told, wrong)
 
 
 def sample_calls_of_searches(stack, told, wrong):
@@ -107,10 +122,51 @@ def sample_calls_of_services(told, wrong):
     return calls + [(Service.__eq__, (service, sample_service())), (Lock.__eq__, (lock, Lock(2, 10, 3)))]
 
 
+def after_runs(stack, own, runs_made):
+    """What a new prober tells behind some runs."""
+    prober = Prober(stack, own)
+    numbers = [prober.run(choice, word) for choice, word in runs_made]
+    return [numbers, prober.candidates, prober.history, prober.sure, prober.kinds(), prober.best_choice(),
+            prober.fewest_runs()]
+
+
+def after_sights(stacks, sights):
+    """What new suspects tell behind some sights."""
+    suspects = Suspects(stacks)
+    numbers = [suspects.see(row, word) for row, word in sights]
+    return [numbers, suspects.remaining, suspects.history, suspects.groups(), suspects.best_answers(),
+            suspects.fewest_tests()]
+
+
+def after_operations(stack, operations):
+    """What a new register tells behind some operations."""
+    desk = Register(stack)
+    results = [desk.tried(operations, False), desk.apply_all(operations)]
+    again = Register.replay(stack, desk.history)
+    return results + [[one.stack(), one.stored, one.promises, one.history] for one in (desk, again)]
+
+
+def sample_calls_of_what_changes(stack, told, wrong):
+    """Those of objects that change; each object is made by the call itself."""
+    choices = [{"key": "no", "lan": "gone"}, {"key": "yes", "lan": "yes"}, {"zoo": "yes"}]
+    calls = [(after_runs, (stack, ("key", "lan"), [(choice, word)])) for choice in choices for word in ("in", "out", "")]
+    calls += [(after_runs, (stack, own, [])) for own in (["key"], ("pin", "key"), ("card", "key", "lan"))]
+    stacks = (stack, Stack(Rule("pin", "required")), stack.without((1,)))
+    calls += [(after_sights, (stacks, [(row, word)])) for row in (told, wrong) for word in ("in", "out", "")]
+    calls += [(after_sights, (few, [])) for few in ((), stacks * 3)]
+    calls += [(removing.least_risk, (stack, numbers)) for numbers in ((3, 0, 2), (3, 3), tuple(range(7)))]
+    lists = [[("put", 1, Rule("pin", "optional")), ("promise", {"key": "yes", "pin": "yes"}, "in"), ("store", "a"),
+              ("undo",), ("turn", 2, ("ok", "ok", 1, "ok"))], [("take", 0), ("promise", {"zoo": "yes"}, "in")], [["put"]],
+             [("promise", told, "out")], [("take", 0), ("swap", True)]]
+    return calls + [(after_operations, (stack, operations)) for operations in lists]
+
+
 def plainly(value):
     """A value as lists, dicts and tuples of what can be compared by its text."""
     if isinstance(value, Stack):
         return ["stack", written(value)]
+    if isinstance(value, Rule):
+        return ["rule", value.module, value.control]
     if isinstance(value, Service):
         return [plainly(stack) for stack in (value.login, value.account, value.change, value.session)]
     if isinstance(value, Lock):

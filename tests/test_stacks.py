@@ -178,6 +178,11 @@ class WithoutTest(Case):
         self.fails(UnknownRule, Stack().without, (0,), index=0)
         self.fails(UnknownRule, Stack(Stack()).without, (0,), index=0)
 
+    def test_booleans_are_no_numbers(self):
+        stack = Stack(KEY, Stack(CARD), PIN)
+        for numbers, index in (((True,), 0), ((False,), 0), ((2, True), 1), ((1, True), 1), ((0, False, 9), 1)):
+            self.fails(UnknownRule, stack.without, numbers, index=index)
+
     def test_beside_a_plain_search(self):
         rng = random.Random(3)
         for _ in range(300):
@@ -212,6 +217,11 @@ class SplicedTest(Case):
             self.fails(InvalidPlace, stack.spliced, index, count, (PIN,))
         self.fails(InvalidPlace, Stack().spliced, 0, 1, ())
         self.fails(InvalidPlace, Stack().spliced, 1, 0, ())
+
+    def test_booleans_are_no_places(self):
+        stack = Stack(KEY, Stack(CARD, CARD), PIN)
+        for index, count in ((True, 1), (False, 0), (0, True), (1, False), (True, True)):
+            self.fails(InvalidPlace, stack.spliced, index, count, (PIN,))
 
     def test_no_stack_then(self):
         full = Stack(*idle(12))

@@ -1,8 +1,9 @@
-"""The order in which the least one of several subsets is chosen."""
+"""The order in which the first one of several subsets, or orders, is chosen."""
 
 import unittest
+from itertools import permutations
 
-from loginstacks.subsets import all_subsets
+from loginstacks.subsets import all_orders, all_subsets
 from tests import plain
 from tests.support import Case
 
@@ -16,6 +17,17 @@ class SubsetsTest(Case):
     def test_beside_a_plain_search(self):
         for many in range(8):
             self.same(all_subsets(list(range(many))), plain.tuples_of(range(many)))
+
+
+class OrdersTest(Case):
+    def test_in_tuple_order(self):
+        self.same(all_orders([]), [()])
+        self.same(all_orders(("a", "b", "c")), [("a", "b", "c"), ("a", "c", "b"), ("b", "a", "c"), ("b", "c", "a"),
+                                                ("c", "a", "b"), ("c", "b", "a")])
+
+    def test_beside_a_plain_search(self):
+        for many in range(7):
+            self.same(all_orders(list(range(many))), sorted(permutations(range(many))))
 
 
 if __name__ == "__main__":
