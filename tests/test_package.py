@@ -6,8 +6,8 @@ import unittest
 from pathlib import Path
 
 import loginstacks
-from loginstacks import (answers, asking, comparing, ends, harm, locks, needs, removing, runs, services, settling,
-                         trimming, watching, weights)
+from loginstacks import (answers, asking, codec, comparing, covers, ends, harm, locks, needs, notation, removing, runs,
+                         scripts, services, settling, trimming, watching, weights)
 from loginstacks.errors import StackError
 from loginstacks.locks import Lock
 from loginstacks.probing import Prober
@@ -45,6 +45,10 @@ INTERFACE = {
     "suspects": ("Suspects",),
     "removing": ("least_risk",),
     "registers": ("Register", "Trial"),
+    "covers": ("cover", "cover_text", "shortest_cover"),
+    "notation": ("format_stack", "format_service", "parse_stack", "parse_service"),
+    "codec": ("encode_stack", "decode_stack"),
+    "scripts": ("run_script",),
 }
 METHODS = {
     Rule: ("module", "control", "kind", "__eq__"),
@@ -81,7 +85,7 @@ def sample_calls():
     calls += [(Stack.without, (stack, numbers)) for numbers in ((3, 0), (1, 1))]
     calls += [(Stack.spliced, (stack, index, 1, (other, "pin")[:index])) for index in (0, 1, 2, 9)]
     calls += sample_calls_of_searches(stack, told, wrong) + sample_calls_of_services(told, wrong)
-    return calls + sample_calls_of_what_changes(stack, told, wrong)
+    return calls + sample_calls_of_what_changes(stack, told, wrong) + sample_calls_of_texts(stack)
 
 
 def sample_calls_of_searches(stack, told, wrong):
@@ -159,6 +163,22 @@ def sample_calls_of_what_changes(stack, told, wrong):
               ("undo",), ("turn", 2, ("ok", "ok", 1, "ok"))], [("take", 0), ("promise", {"zoo": "yes"}, "in")], [["put"]],
              [("promise", told, "out")], [("take", 0), ("swap", True)]]
     return calls + [(after_operations, (stack, operations)) for operations in lists]
+
+
+def sample_calls_of_texts(stack):
+    """Those of covers, texts, codes and scripts."""
+    calls = [(one, (stack,)) for one in (
+        covers.cover, covers.cover_text, covers.shortest_cover, notation.format_stack, codec.encode_stack)]
+    calls += [(covers.shortest_cover, (Stack(*[Rule(name, "optional") for name in "abcde"]),)),
+              (notation.format_service, (sample_service(),))]
+    text = notation.format_stack(stack)
+    calls += [(notation.parse_stack, (one,)) for one in (text, text + "\nend", "\n".join([text] * 3))]
+    text = notation.format_service(sample_service())
+    calls += [(notation.parse_service, (one,)) for one in (text, text + "\nend", text[1:])]
+    code = codec.encode_stack(stack)
+    calls += [(codec.decode_stack, (one,)) for one in (code, code[:-1] + [True], code[:9], [])]
+    rows = ["add required pin", "repeat 2", "tell pin yes", "run", "rules", "end", "drop 0", "drop 0"]
+    return calls + [(scripts.run_script, ("\n".join(rows[:many]),)) for many in (1, 3, 6, 7, 8)]
 
 
 def plainly(value):
