@@ -155,22 +155,21 @@ class Trial:
 
     def __init__(self, desk):
         self.desk = desk
+        # The book to go back to. No flag beside it tells of hold: the end of a block asks attributes for None alone.
         self.book = None
-        self.kept = False
 
     def __enter__(self):
         self.book = self.desk._book
-        self.kept = False
         return self
 
     def __exit__(self, kind, value, trace):
         desk = self.desk
-        if not self.kept:
+        if self.book is not None:
             desk._book = self.book
 
     def hold(self):
         """Keeps what the block changes."""
-        self.kept = True
+        self.book = None
 
 
 def copied(operation):

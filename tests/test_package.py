@@ -217,6 +217,17 @@ def spoil(value):
         value.append("spoiled")
 
 
+def asks_for_none(test):
+    """Whether a test asks names and attributes for None alone."""
+    if isinstance(test, ast.BoolOp):
+        return all(asks_for_none(part) for part in test.values)
+    if isinstance(test, ast.UnaryOp):
+        return isinstance(test.op, ast.Not) and asks_for_none(test.operand)
+    return (isinstance(test, ast.Compare) and isinstance(test.left, (ast.Name, ast.Attribute))
+            and len(test.ops) == 1 and isinstance(test.ops[0], (ast.Is, ast.IsNot))
+            and isinstance(test.comparators[0], ast.Constant) and test.comparators[0].value is None)
+
+
 class CallsTest(Case):
     def test_no_argument_is_changed(self):
         for call, arguments in sample_calls():
@@ -279,6 +290,16 @@ class FilesTest(Case):
     def test_methods_are_defined_in_their_classes(self):
         for one, names in METHODS.items():
             self.assertEqual([name for name in names if name not in vars(one)], [])
+
+    def test_ends_of_blocks_ask_for_none_alone(self):
+        # Rules and stacks have an `__eq__` or a `__len__`, and beside these an `__exit__` may ask nothing else.
+        ends_found = [node for path in FOLDER.glob("*.py") for node in ast.walk(ast.parse(path.read_text()))
+                      if isinstance(node, ast.FunctionDef) and node.name == "__exit__"]
+        self.assertEqual(len(ends_found), 1)
+        for end in ends_found:
+            wrong = [ast.unparse(node) for node in ast.walk(end)
+                     if isinstance(node, ast.If) and not asks_for_none(node.test)]
+            self.assertEqual(wrong, [])
 
     def test_nothing_from_outside_is_imported(self):
         for path in FOLDER.glob("*.py"):

@@ -331,6 +331,21 @@ class TrialTest(Case):
             desk.put(0, KEY)
         self.assertEqual(desk.stack(), Stack(CARD, PIN))
 
+    def test_hold_counts_for_its_own_block_alone(self):
+        for holds in ((False, True), (False, False), (True, True), (True, False)):
+            desk, other = half_undone(), half_undone()
+            trial = Trial(desk)
+            trial.hold()
+            for held, name in zip(holds, ("one", "two")):
+                with trial:
+                    desk.store(name)
+                    if held:
+                        trial.hold()
+                        trial.hold()
+                trial.hold()
+            other.apply_all([("store", name) for held, name in zip(holds, ("one", "two")) if held])
+            self.same(all_states(desk), all_states(other))
+
     def test_the_beginning_is_that_of_the_block(self):
         desk = Register(Stack(PIN))
         trial = Trial(desk)
